@@ -1,0 +1,1 @@
+"""Plotfree: values on plots that are given back whole."""
