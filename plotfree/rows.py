@@ -1,6 +1,6 @@
-"""What a program is: its plots and its rows."""
+"""What a program is: its plots and its rows; and what a run of it may be given."""
 
-from plotfree.errors import BadPlots, BadRows
+from plotfree.errors import BadPlots, BadRows, BadRun
 
 MOST_PLOTS = 12
 MOST_ROWS = 60
@@ -8,6 +8,7 @@ MOST_LETTERS = 8
 LETTERS = "abcdefghijklmnopqrstuvwxyz"
 # Ten to the eighteenth.
 MOST_NUMBER = 1000000000000000000
+MOST_STEPS = 1000000
 
 # What goes with each word, in the order in which it is written.
 SHAPES = {
@@ -49,6 +50,18 @@ def need_rows(names, rows):
     for at, row in enumerate(rows):
         if not is_row(row, names, len(rows)):
             raise BadRows(at)
+    return True
+
+
+def need_run(inputs, steps):
+    """True for what a run may be given beside its program; refuses with BadRun."""
+    if not isinstance(inputs, list):
+        raise BadRun("the inputs are no list")
+    for number in inputs:
+        if not is_number(number):
+            raise BadRun("an input is no whole number")
+    if not is_whole(steps, 0, MOST_STEPS):
+        raise BadRun(f"the steps are no whole number from 0 to {MOST_STEPS}")
     return True
 
 
@@ -99,12 +112,15 @@ def is_name(text):
     return True
 
 
+def is_number(number):
+    """Whether it is a whole number of any size."""
+    # Python counts True and False among the integers; the document does not.
+    return isinstance(number, int) and not isinstance(number, bool)
+
+
 def is_whole(number, low, high):
     """Whether it is a whole number from low to high."""
-    # Python counts True and False among the integers; the document does not.
-    if isinstance(number, bool) or not isinstance(number, int):
-        return False
-    return low <= number and number <= high
+    return is_number(number) and low <= number and number <= high
 
 
 def row_at(rows, place):

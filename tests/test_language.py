@@ -21,6 +21,11 @@ INTERFACE = {
     "errors.py": {"PlotError": (), "BadPlots": (), "BadRows": (), "BadRun": ()},
     "rows.py": {"need": ("plots", "rows"), "row_at": ("rows", "place"), "outward": ("plots", "plot")},
     "store.py": {"Store": {"__init__": ("self", "plots"), "do": ("self", "row")}},
+    "machine.py": {"Outcome": (), "run": ("plots", "rows", "inputs", "steps")},
+    "facts.py": {"at_first": ("plots", "rows"), "wrong_by": ("plots", "row", "fact"),
+                 "behind": ("plots", "row", "fact"), "ways_on": ("rows", "place")},
+    "look.py": {"Wrong": (), "look": ("plots", "rows")},
+    "bare.py": {"bare": ("plots", "rows", "inputs", "steps")},
 }
 
 

@@ -4,9 +4,7 @@ import unittest
 
 from plotfree.rows import need
 from plotfree.store import Store
-
-# d lies within c, c and b within a; e stands beside them.
-PLOTS = [("a", None), ("b", "a"), ("c", "a"), ("d", "c"), ("e", None)]
+from tests.plain import PLOTS, Plain, some_row
 
 
 class StoreCase(unittest.TestCase):
@@ -312,92 +310,6 @@ class EndTest(StoreCase):
         self.wrong(store, "gone", ("tell", "x"))
         self.do_all(store, ("end",), ("open", "a"))
         self.wrong(store, "left", ("end",))
-
-
-class Plain:
-    """Another way to the same: each opening lists its values, and giving back marks them."""
-
-    def __init__(self, plots):
-        self.outer = dict(plots)
-        self.alive, self.holds = [], {}
-        self.told, self.opened, self.given = [], 0, []
-
-    def find(self, plot):
-        return next((one for one in self.alive if one["plot"] == plot), None)
-
-    def state(self, name):
-        if name not in self.holds:
-            return "nothing"
-        return "gone" if self.holds[name]["gone"] else ""
-
-    def within(self, inner, plot):
-        return inner == plot or (self.outer[inner] is not None and self.within(self.outer[inner], plot))
-
-    def words(self, row):
-        word = row[0]
-        if word == "open":
-            yield "open already" if self.find(row[1]) else ""
-            yield "not open" if self.outer[row[1]] and not self.find(self.outer[row[1]]) else ""
-        if word in ("copy", "same"):
-            state = self.state(row[2])
-            yield "" if word == "same" and state == "gone" else state
-        if word in ("add", "tell"):
-            for name in row[1:]:
-                yield self.state(name)
-        if word in ("lay", "copy", "give"):
-            plot = {"lay": 2, "copy": 3, "give": 1}[word]
-            yield "" if self.find(row[plot]) else "not open"
-        if word == "end":
-            yield "left" if self.alive else ""
-
-    def do(self, row):
-        wrong = next((word for word in self.words(row) if word), "")
-        if wrong == "":
-            getattr(self, "do_" + row[0])(*row[1:])
-        return wrong
-
-    def do_open(self, plot):
-        self.alive.append({"plot": plot, "number": self.opened, "on": []})
-        self.opened += 1
-
-    def do_lay(self, name, plot, number):
-        self.holds[name] = {"worth": number, "gone": False}
-        self.find(plot)["on"].append(self.holds[name])
-
-    def do_copy(self, name, other, plot):
-        self.do_lay(name, plot, self.holds[other]["worth"])
-
-    def do_same(self, name, other):
-        self.holds[name] = self.holds[other]
-
-    def do_add(self, name, other):
-        self.holds[name]["worth"] += self.holds[other]["worth"]
-
-    def do_tell(self, name):
-        self.told.append(self.holds[name]["worth"])
-
-    def do_give(self, plot):
-        lost = [one for one in self.alive if self.within(one["plot"], plot)]
-        for one in sorted(lost, key=lambda one: -one["number"]):
-            self.given.append(one["number"])
-            self.alive.remove(one)
-            for value in one["on"]:
-                value["gone"] = True
-
-    def do_end(self):
-        pass
-
-
-def some_row(chance):
-    def plot():
-        return chance.choice(PLOTS)[0]
-
-    def name():
-        return chance.choice("abx")
-    word = chance.choice(("open",) * 4 + ("lay", "copy", "same", "add", "tell", "give", "end"))
-    parts = {"open": (plot(),), "lay": (name(), plot(), chance.randint(-9, 9)), "copy": (name(), name(), plot()),
-             "same": (name(), name()), "add": (name(), name()), "tell": (name(),), "give": (plot(),), "end": ()}
-    return (word,) + parts[word]
 
 
 class BothWaysTest(unittest.TestCase):
